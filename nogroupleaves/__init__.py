@@ -1,0 +1,1 @@
+"""Payments with which no group earns more by leaving."""
