@@ -1,4 +1,4 @@
-"""What several files need to keep the parts of their data."""
+"""What several files need of data and of groups."""
 
 
 def as_tuples(part):
@@ -6,3 +6,16 @@ def as_tuples(part):
     if isinstance(part, (list, tuple)):
         return tuple([as_tuples(item) for item in part])
     return part
+
+
+def whole_of(count):
+    """The group of all members, of whom there are that many."""
+    return tuple(range(count))
+
+
+def ascending_tuples(count):
+    """All ascending tuples of indexes below the count, none empty, in ascending order."""
+    found = []
+    for index in reversed(range(count)):
+        found = [(index,)] + [(index,) + behind for behind in found] + found
+    return found

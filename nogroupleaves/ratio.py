@@ -1,6 +1,6 @@
 """Fractions of integers of any length."""
 
-from math import gcd
+from math import gcd, lcm
 
 from nogroupleaves.errors import BadRatio
 
@@ -44,3 +44,11 @@ class Ratio:
             # A denominator is positive, so the sign of the divisor goes to the numerator.
             return Ratio(-self.num * other.den, -other.num * self.den)
         return Ratio(self.num * other.den, other.num * self.den)
+
+
+def over_one_den(ratios):
+    """A pair of the list of the numerators of the fractions over one denominator, and that denominator."""
+    den = 1
+    for ratio in ratios:
+        den = lcm(den, ratio.den)
+    return [ratio.num * (den // ratio.den) for ratio in ratios], den

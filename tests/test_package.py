@@ -19,6 +19,16 @@ INTERFACE = {
     "house": {
         "House": ["goods", "members", "talks", "recipes", "orders"], "read_house": ["text"], "house_text": ["house"],
     },
+    "earn": {"earned": ["house", "group", "plan"], "best_plan": ["house", "group"]},
+    "table": {
+        "Table": ["count", "rows"], "acting": ["house"], "table_of": ["house"],
+        "complaint": ["table", "payments", "group"], "gains": ["table", "payments"], "holds_on": ["table", "payments"],
+        "best_split": ["table"],
+    },
+    "pay": {
+        "stay": ["table"], "subsidy": ["table"], "tax": ["table"], "least_for": ["table", "member"],
+        "most_for": ["table", "member"], "nearest": ["table", "wishes"], "fairest": ["table"],
+    },
 }
 
 METHODS = {
@@ -27,10 +37,11 @@ METHODS = {
         "__eq__": ["self", "other"], "__str__": ["self"], "less": ["self", "other"], "over": ["self", "other"],
     },
     ("house", "House"): {"__eq__": ["self", "other"]},
+    ("table", "Table"): {"__eq__": ["self", "other"], "earning": ["self", "group"]},
 }
 
 # The only names of Python's own library that the program takes: they need no clock, no chance and no file.
-LIBRARY = {("math", "gcd")}
+LIBRARY = {("math", "gcd"), ("math", "lcm")}
 
 
 def part_of(module, name):
