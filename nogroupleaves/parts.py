@@ -13,6 +13,16 @@ def whole_of(count):
     return tuple(range(count))
 
 
+def is_group(count, group):
+    """True if the tuple is a group of some of that many members."""
+    return len(group) > 0 and is_ascending(group) and group[0] >= 0 and group[-1] < count
+
+
+def is_ascending(parts):
+    """True if each of the parts is less than the one behind it."""
+    return all([parts[at] < parts[at + 1] for at in range(len(parts) - 1)])
+
+
 def ascending_tuples(count):
     """All ascending tuples of indexes below the count, none empty, in ascending order."""
     found = []

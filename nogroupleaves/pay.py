@@ -2,9 +2,9 @@
 
 from nogroupleaves.errors import NoPayments
 from nogroupleaves.parts import whole_of
-from nogroupleaves.ratio import Ratio, over_one_den
+from nogroupleaves.ratio import Ratio, sum_of
 from nogroupleaves.simplex import best_weights, rank
-from nogroupleaves.table import complaint
+from nogroupleaves.table import complaint, complaint_levels, paid
 
 
 def stay(table):
@@ -60,7 +60,7 @@ def nearest(table, wishes):
     above, below = parts[:table.count], parts[table.count:]
     payments = tuple([wish + more - fewer for wish, more, fewer in zip(wishes, above, below)])
     rest = weights[len(rows)] - weights[len(rows) + 1]
-    return ("near", tuple(wishes), _sum(parts), payments, _weighed(rows, weights), rest)
+    return ("near", tuple(wishes), sum_of(parts), payments, _weighed(rows, weights), rest)
 
 
 def fairest(table):
@@ -77,7 +77,7 @@ def _least_subsidy(table):
     """
     columns = [_marks(table.count, group) for group in _groups_of(table.rows)]
     weights, payments = best_weights(columns, [1] * table.count, [row[1] for row in table.rows])
-    amount = _sum(payments) - table.earning(whole_of(table.count))
+    amount = sum_of(payments) - table.earning(whole_of(table.count))
     shown = _weighed(table.rows, weights) if amount.num > 0 else ()
     return amount, tuple(payments), shown
 
@@ -133,7 +133,7 @@ def _fairest_payments(table):
     fixed = [whole]
     while len(fixed) < table.count:
         rows = [row for row in table.rows if not _is_settled(table.count, fixed, row[0])]
-        pays = [(group, _sum([payments[member] for member in group])) for group in fixed]
+        pays = [(group, paid(payments, group)) for group in fixed]
         _, payments, weights = _least_complaint(table.count, rows, pays)
         for group in _groups_of(weights):
             if not _is_settled(table.count, fixed, group):
@@ -152,20 +152,17 @@ def _levels(table, payments):
     The weights of a level are the mean of covers found for it and for those before it, such
     that each group of the level is in one of them.
     """
-    groups = _groups_of(_rows_but_whole(table))
-    nums, den = over_one_den([complaint(table, payments, group) for group in groups])
     sums = {}
     covers = 0
     levels = []
-    for least in reversed(sorted(set(nums))):
-        chosen = [group for group, num in zip(groups, nums) if num >= least]
+    for least, chosen in complaint_levels(table, payments):
         for group in chosen:
             if group not in sums:
                 covers += 1
                 for other, weight in _cover_with(table.count, chosen, group):
                     sums[other] = sums.get(other, Ratio(0)) + weight
         weights = [(group, sums[group].over(Ratio(covers))) for group in chosen]
-        levels.append((Ratio(least, den), tuple(weights)))
+        levels.append((least, tuple(weights)))
     return tuple(levels)
 
 
@@ -197,7 +194,3 @@ def _marks(count, group):
 
 def _both_signs(marks):
     return marks + [-mark for mark in marks]
-
-
-def _sum(ratios):
-    return sum(ratios, start=Ratio(0))

@@ -46,6 +46,11 @@ class Ratio:
         return Ratio(self.num * other.den, other.num * self.den)
 
 
+def sum_of(ratios):
+    """The sum of the fractions, 0 if there are none."""
+    return sum(ratios, start=Ratio(0))
+
+
 def over_one_den(ratios):
     """A pair of the list of the numerators of the fractions over one denominator, and that denominator."""
     den = 1

@@ -2,8 +2,8 @@
 
 from nogroupleaves.earn import best_plan
 from nogroupleaves.errors import BadTable
-from nogroupleaves.parts import as_tuples, ascending_tuples, whole_of
-from nogroupleaves.ratio import Ratio
+from nogroupleaves.parts import as_tuples, ascending_tuples, is_ascending, is_group, whole_of
+from nogroupleaves.ratio import Ratio, over_one_den, sum_of
 
 MOST_COUNT = 5
 
@@ -33,23 +33,15 @@ def _fault(count, groups):
     """The word of the first fault of a table, in the order in which they are told, or None."""
     if not 1 <= count <= MOST_COUNT:
         return "count"
-    if not all([_is_group(count, group) for group in groups]):
+    if not all([is_group(count, group) for group in groups]):
         return "group"
-    if not _is_ascending(groups):
+    if not is_ascending(groups):
         return "order"
     if not all([(member,) in groups for member in range(count)]):
         return "single"
     if whole_of(count) not in groups:
         return "whole"
     return None
-
-
-def _is_group(count, group):
-    return len(group) > 0 and _is_ascending(group) and group[0] >= 0 and group[-1] < count
-
-
-def _is_ascending(parts):
-    return all([parts[at] < parts[at + 1] for at in range(len(parts) - 1)])
 
 
 def acting(house):
@@ -80,19 +72,35 @@ def table_of(house):
     return Table(len(house.members), rows)
 
 
+def leavers(table):
+    """The list of the groups that can act, but not the whole, in ascending order."""
+    whole = whole_of(table.count)
+    return [row[0] for row in table.rows if row[0] != whole]
+
+
+def paid(payments, group):
+    """What the group is paid."""
+    return sum_of([payments[member] for member in group])
+
+
 def complaint(table, payments, group):
     """The earning of the group less what it is paid."""
-    left = table.earning(group)
-    for member in group:
-        left = left - payments[member]
-    return left
+    return table.earning(group) - paid(payments, group)
+
+
+def complaint_levels(table, payments):
+    """The list of pairs of a complaint and the groups whose complaint is at least that, the greatest one first."""
+    groups = leavers(table)
+    nums, den = over_one_den([complaint(table, payments, group) for group in groups])
+    levels = []
+    for least in reversed(sorted(set(nums))):
+        levels.append((Ratio(least, den), [group for group, num in zip(groups, nums) if num >= least]))
+    return levels
 
 
 def gains(table, payments):
     """The list of the groups that gain by leaving, in ascending order."""
-    whole = whole_of(table.count)
-    groups = [row[0] for row in table.rows if row[0] != whole]
-    return [group for group in groups if complaint(table, payments, group).num > 0]
+    return [group for group in leavers(table) if complaint(table, payments, group).num > 0]
 
 
 def holds_on(table, payments):
@@ -105,7 +113,7 @@ def best_split(table):
     best = None
     groups = [row[0] for row in table.rows]
     for split in _splits(groups, whole_of(table.count)):
-        total = sum([table.earning(group) for group in split], start=Ratio(0))
+        total = sum_of([table.earning(group) for group in split])
         # Splits come in ascending order, so an equally good one does not replace an earlier one.
         if best is None or best[0].less(total) or (best[0] == total and len(split) < len(best[1])):
             best = (total, split)

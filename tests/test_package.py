@@ -29,6 +29,15 @@ INTERFACE = {
         "stay": ["table"], "subsidy": ["table"], "tax": ["table"], "least_for": ["table", "member"],
         "most_for": ["table", "member"], "nearest": ["table", "wishes"], "fairest": ["table"],
     },
+    "judge": {"is_right": ["table", "claim"]},
+    "change": {
+        "scaled": ["table", "factor", "amounts"], "renumbered": ["table", "order"],
+        "reduced": ["table", "payments", "group"],
+    },
+    "pact": {"Pact": ["table"]},
+    "lines": {
+        "table_lines": ["table"], "claim_lines": ["claim"], "read_table": ["lines"], "read_claim": ["lines"],
+    },
 }
 
 METHODS = {
@@ -38,6 +47,7 @@ METHODS = {
     },
     ("house", "House"): {"__eq__": ["self", "other"]},
     ("table", "Table"): {"__eq__": ["self", "other"], "earning": ["self", "group"]},
+    ("pact", "Pact"): {"tell": ["self", "group", "earning"], "words": ["self"]},
 }
 
 # The only names of Python's own library that the program takes: they need no clock, no chance and no file.

@@ -4,7 +4,7 @@ from fractions import Fraction
 from itertools import product
 from random import Random
 
-from claims import View, faults, ratios_in
+from claims import View, claims_of, faults, ratios_in
 from nogroupleaves.errors import NoPayments
 from nogroupleaves.pay import fairest, least_for, most_for, nearest, stay, subsidy, tax
 from nogroupleaves.ratio import Ratio
@@ -19,20 +19,6 @@ TABLES = all_tables(50)
 FEW = table_from({(0,): 1, (0, 1): 5, (0, 1, 2): Fraction(17, 2), (0, 2): 0, (1,): Fraction(-1, 2), (2,): 3})
 MAJORITY = majority_table(3)
 ALONE = table_from({(0,): Fraction(-7, 2)})
-
-
-def claims_of(table, wishes):
-    """The claims of all functions; those that raise NoPayments tell a claim "leave" instead."""
-    def told(function, *arguments):
-        try:
-            return function(*arguments)
-        except NoPayments as error:
-            return ("leave", error.weights)
-    members = range(table.count)
-    return [
-        stay(table), subsidy(table), tax(table), fairest(table), told(nearest, table, wishes),
-        *[told(function, table, member) for function in (least_for, most_for) for member in members],
-    ]
 
 
 class ClaimCase(unittest.TestCase):
